@@ -1,0 +1,1 @@
+"""Posts that are never far: see valleyposts.valley.answers."""
