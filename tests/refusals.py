@@ -12,6 +12,7 @@ class RefusalCase(unittest.TestCase):
         self.assertEqual(lists[len(before):], expected)
 
     def changes_nothing(self, before, call):
+        """Neither the valley nor what can be taken back or done again."""
         with_it = ask(before + [call] + SEEN)
         without = ask(before + SEEN)
         self.assertEqual(with_it[len(before) + 1:], without[len(before):])

@@ -1,7 +1,7 @@
 """Points 1 to 3: vp_start, and the calls that change the valley."""
 
-from tests.lines import BIGGEST, SEEN, ask, ball, bits, clear, drop, far, fewest, last, line, post, put, road
-from tests.lines import share, start, star, valley, village
+from tests.lines import BIGGEST, SEEN, ask, ball, bits, clear, drop, far, fewest, last, line, look, near, post, put
+from tests.lines import road, serves, share, start, star, valley, village
 from tests.refusals import RefusalCase
 
 FULL_STAR = star([1] * 9)
@@ -193,7 +193,7 @@ class NotThere(RefusalCase):
     def test_a_dropped_village(self):
         before = line([5, 6]) + [drop()]
         for call in (village(2, 5), road(2, 5), post(2, 1), far(2, 0), far(0, 2), ball(2, 5),
-                     share(2, 0, 5), share(0, 2, 5)):
+                     share(2, 0, 5), share(0, 2, 5), near(2), serves(2, 5), look(2)):
             self.refused(before, call, -2)
 
     def test_seen_tells_valleys_apart(self):

@@ -27,6 +27,7 @@ METHODS = set("""
 SPECIAL = {"__init__", "__eq__", "__repr__", "__str__", "__len__"}
 WALKED = {"zip", "enumerate", "reversed", "range"}
 WALKERS = {"list", "tuple", "dict", "sorted", "sum", "any", "all", "enumerate", "zip", "min", "max"}
+PLAIN = (ast.Constant, ast.UnaryOp, ast.USub, ast.Tuple, ast.Name, ast.Load)
 WORDS = re.compile(r"\b(type|typing|typing_extensions|enum|Enum|IntEnum|StrEnum|Flag|IntFlag|Generic|Protocol|ABC"
                    r"|ABCMeta|namedtuple|NamedTuple|TypedDict|TYPE_CHECKING|abstractmethod)\b"
                    r"|dataclass|overload|contextmanager")
@@ -81,10 +82,19 @@ class Language(unittest.TestCase):
             self.assertEqual(node.level, 0, place)
             package, name = node.module.split(".")
             self.assertEqual(package, "valleyposts", place)
-            defined = [one.name for one in self.trees[PACKAGE / f"{name}.py"].body
-                       if isinstance(one, (ast.FunctionDef, ast.ClassDef))]
+            defined = defined_names(self.trees[PACKAGE / f"{name}.py"])
             for imported in node.names:
                 self.assertIn(imported.name, defined, place)
+                self.assertIsNone(imported.asname, place)
+
+    def test_no_two_files_draw_from_one_another(self):
+        drawn = {path.stem: {node.module.split(".")[1] for node in tree.body if isinstance(node, ast.ImportFrom)}
+                 for path, tree in self.trees.items()}
+        # Files that draw from nothing that is left are taken away, till none is left.
+        while drawn:
+            free = [name for name, others in drawn.items() if not others & set(drawn)]
+            self.assertNotEqual(free, [], drawn)
+            drawn = {name: others for name, others in drawn.items() if name not in free}
 
     def test_names(self):
         for place, node in self.nodes(ast.Name):
@@ -117,8 +127,26 @@ class Language(unittest.TestCase):
                 elif not isinstance(node, ast.Expr):
                     bound.append(node.name)
             self.assertEqual(len(bound), len(set(bound)), path.name)
-            for place, node in self.nodes(ast.FunctionDef):
-                self.assertFalse({one.arg for one in node.args.args} & imported_names(tree), place)
+
+    def test_values_at_the_top_are_plain(self):
+        for path, tree in self.trees.items():
+            functions = [node.name for node in tree.body if isinstance(node, ast.FunctionDef)]
+            for node in tree.body:
+                if isinstance(node, ast.Assign):
+                    for part in ast.walk(node.value):
+                        self.assertIsInstance(part, PLAIN, path.name)
+                        if isinstance(part, ast.Name):
+                            self.assertIn(part.id, functions, path.name)
+
+    def test_no_local_is_called_like_an_import_or_a_class(self):
+        for path, tree in self.trees.items():
+            taken = imported_names(tree) | {node.name for node in tree.body if isinstance(node, ast.ClassDef)}
+            for function in ast.walk(tree):
+                if isinstance(function, (ast.FunctionDef, ast.Lambda)):
+                    locals_of = [node.id for node in ast.walk(function)
+                                 if isinstance(node, ast.Name) and isinstance(node.ctx, ast.Store)]
+                    locals_of += [node.arg for node in ast.walk(function) if isinstance(node, ast.arg)]
+                    self.assertFalse(set(locals_of) & taken, f"{path.name}:{function.lineno}")
 
     def test_walked_on_the_spot(self):
         walked = set()
@@ -139,3 +167,8 @@ class Language(unittest.TestCase):
 
 def imported_names(tree):
     return {one.name for node in tree.body if isinstance(node, ast.ImportFrom) for one in node.names}
+
+
+def defined_names(tree):
+    values = [node.targets[0].id for node in tree.body if isinstance(node, ast.Assign)]
+    return values + [node.name for node in tree.body if isinstance(node, (ast.FunctionDef, ast.ClassDef))]

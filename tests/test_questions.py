@@ -1,7 +1,7 @@
 """Point 4: the questions, which change nothing."""
 
-from tests.lines import BIGGEST, ball, bits, far, fewest, last, least, line, lonely, post, road, share, star, start
-from tests.lines import valley
+from tests.lines import BIGGEST, ball, bits, far, fewest, last, least, line, lonely, one, post, road, share, star
+from tests.lines import start, valley
 from tests.refusals import RefusalCase
 
 # Two arms at village 0: 0 - 1 - 2 (3 and 4 long), 0 - 3 - 4 (10 and 1 long).
@@ -159,3 +159,56 @@ class Least(RefusalCase):
 
     def test_changes_nothing(self):
         self.changes_nothing(ARMS + [post(2, 1)], least(2))
+
+
+class One(RefusalCase):
+    def test_least_village_within_r_of_all(self):
+        self.told([one(bits(2, 4), 11), one(bits(0, 1, 2), 4), one(bits(3, 4), 1), one(bits(0, 2, 3), 10)],
+                  [[0], [1], [3], [0]], before=ARMS)
+
+    def test_of_like_ones_the_least(self):
+        # Of 1, 2 and 3 each is within 10 of all; 0 isn't.
+        self.told([one(bits(1, 2, 3), 10), one(bits(1, 3), 5)], [[1], [2]], before=line([50, 5, 5]))
+
+    def test_need_not_be_one_of_them(self):
+        self.told([one(bits(1, 2, 3), 5)], [[0]], before=star([5, 5, 5]))
+        self.told([one(bits(0, 2), 5)], [[1]], before=line([5, 5]))
+
+    def test_of_one_village(self):
+        self.told([one(bits(4), 0), one(bits(4), 1), one(bits(4), 11)], [[4], [3], [0]], before=ARMS)
+
+    def test_no_bits(self):
+        for before in ([start()], ARMS, line([1] * 9)):
+            self.told([one(0, 0), one(0, 3), one(0, BIGGEST)], [[0], [0], [0]], before=before)
+
+    def test_all_villages(self):
+        self.told([one(31, 11), one(31, 14), one(31, BIGGEST)], [[0], [0], [0]], before=ARMS)
+        self.refused(ARMS, one(31, 10), -33)
+        self.refused(ARMS, one(31, 0), -33)
+        self.told([one(1023, 5), one(1023, 6), one(1023, 9)], [[4], [3], [0]], before=line([1] * 9))
+        self.refused(line([1] * 9), one(1023, 4), -33)
+
+    def test_village_0_alone(self):
+        self.told([one(1, 0), one(1, BIGGEST)], [[0], [0]], before=[start()])
+        self.refused([start()], one(2, 0), -22)
+        self.refused([start()], one(3, BIGGEST), -22)
+
+    def test_none_within_r_of_all(self):
+        self.refused(ARMS, one(bits(2, 4), 10), -33)
+        self.refused(ARMS, one(bits(0, 1), 0), -33)
+        self.refused(line([4, 6]), one(bits(0, 2), 5), -33)
+
+    def test_bits_of_others(self):
+        for w in (bits(5), bits(0, 5), bits(9), bits(31), 63, 1023, BIGGEST):
+            for r in (0, 5, BIGGEST):
+                self.refused(ARMS, one(w, r), -22)
+        for w in (1024, 1025, 2047, BIGGEST):
+            self.refused(line([1] * 9), one(w, 9), -22)
+
+    def test_which_refusal_is_told(self):
+        self.refused(ARMS, one(bits(2, 4, 5), 0), -22)
+        self.refused(line([1] * 9), one(2047, 0), -22)
+
+    def test_posts_are_not_asked_for(self):
+        self.told([post(2, 1), one(bits(3, 4), 1)], [[1], [3]], before=ARMS)
+        self.changes_nothing(ARMS + [post(2, 1)], one(bits(3, 4), 1))

@@ -38,12 +38,12 @@ def distances(ups, roads):
     return table
 
 
+def set_of(numbers):
+    return sum([1 << v for v in numbers])
+
+
 def ball(row, r):
-    villages = 0
-    for v in range(len(row)):
-        if row[v] <= r:
-            villages = villages | (1 << v)
-    return villages
+    return set_of([v for v in range(len(row)) if row[v] <= r])
 
 
 def balls_of(table, r):
@@ -69,8 +69,26 @@ def everyone(balls):
     return (1 << len(balls)) - 1
 
 
+def unserved(balls, posts):
+    return everyone(balls) ^ served(balls, posts)
+
+
 def serve_all(balls, posts):
-    return served(balls, posts) == everyone(balls)
+    return unserved(balls, posts) == 0
+
+
+def idle(balls, posts):
+    """The posts without each of which the others serve all."""
+    return set_of([v for v in range(len(balls)) if has(posts, v) and serve_all(balls, posts ^ (1 << v))])
+
+
+def within_all(balls, villages):
+    """Those within reach of each of the villages: of none, everyone."""
+    near = everyone(balls)
+    for v in range(len(balls)):
+        if has(villages, v):
+            near = near & balls[v]
+    return near
 
 
 def fewest_more(balls, posts):
@@ -116,3 +134,30 @@ def least_reach(table, k):
         else:
             low = middle + 1
     return reaches[low]
+
+
+def nearest(row, posts):
+    """How far the nearest post is, and which: the least of like ones. There must be a post."""
+    return min([(row[v], v) for v in range(len(row)) if has(posts, v)])
+
+
+def worst(table, posts):
+    """How far the farthest nearest post is, and from which village: the least of like ones."""
+    fars = [nearest(row, posts)[0] for row in table]
+    far = max(fars)
+    return (far, fars.index(far))
+
+
+def served_by(table, posts, p, r):
+    """The villages within r of the post p whose nearest post it is."""
+    return set_of([v for v in range(len(table)) if table[v][p] <= r and nearest(table[v], posts)[1] == p])
+
+
+def widest(table):
+    """How far the farthest two are, and which: of like ones the first, by their numbers."""
+    best = (0, 0, 0)
+    for v in range(len(table)):
+        for w in range(v + 1, len(table)):
+            if table[v][w] > best[0]:
+                best = (table[v][w], v, w)
+    return best
